@@ -1,0 +1,1 @@
+"""Tables alike: what stays the same of a square table of fractions, whatever axes are chosen."""

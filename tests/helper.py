@@ -1,0 +1,213 @@
+"""What the tests share: texts to bytes and back, and the same answers reckoned by other ways."""
+
+from fractions import Fraction
+
+
+def told(words):
+    """The lists of bytes of the texts in a row of words."""
+    return [list(word.encode()) for word in words.split()]
+
+
+def shown(answer):
+    """An answer's list as its first number and its texts."""
+    parts = [answer[0]]
+    at = 1
+    while at < len(answer):
+        size = answer[at]
+        if at + 1 + size > len(answer):
+            raise ValueError("a text runs out")
+        parts.append(bytes(answer[at + 1:at + 1 + size]).decode())
+        at += 1 + size
+    return parts
+
+
+def words_of(rows):
+    return " ".join(str(Fraction(number)) for row in rows for number in row)
+
+
+def product(left, right):
+    return [[sum(x * y for x, y in zip(row, column)) for column in zip(*right)] for row in left]
+
+
+def unit(size):
+    return [[Fraction(int(i == j)) for j in range(size)] for i in range(size)]
+
+
+def inverse(rows):
+    """By elimination; None if there's none."""
+    size = len(rows)
+    work = [[Fraction(x) for x in row] + one for row, one in zip(rows, unit(size))]
+    for k in range(size):
+        pivot = next((i for i in range(k, size) if work[i][k] != 0), None)
+        if pivot is None:
+            return None
+        work[k], work[pivot] = work[pivot], work[k]
+        work[k] = [x / work[k][k] for x in work[k]]
+        for i in range(size):
+            if i != k:
+                work[i] = [x - work[i][k] * y for x, y in zip(work[i], work[k])]
+    return [row[size:] for row in work]
+
+
+def by_other_axes(rows, axes):
+    return product(product(inverse(axes), rows), axes)
+
+
+def table_of_polynomial(numbers):
+    """numbers: c0, c1, ..., without the 1 at the highest power."""
+    size = len(numbers)
+    rows = [[Fraction(int(i == j + 1)) for j in range(size)] for i in range(size)]
+    for i, number in enumerate(numbers):
+        rows[i][size - 1] = -Fraction(number)
+    return rows
+
+
+def along_diagonal(blocks):
+    size = sum(len(block) for block in blocks)
+    rows = [[Fraction(0)] * size for _ in range(size)]
+    at = 0
+    for block in blocks:
+        for i, row in enumerate(block):
+            rows[at + i][at:at + len(block)] = row
+        at += len(block)
+    return rows
+
+
+def poly_times(p, q):
+    result = [Fraction(0)] * (len(p) + len(q) - 1)
+    for i, x in enumerate(p):
+        for j, y in enumerate(q):
+            result[i + j] += x * y
+    return result
+
+
+def written(p):
+    """The text of a polynomial, its numbers from power 0 on."""
+    text = ""
+    for power, number in reversed(list(enumerate(p))):
+        if number == 0:
+            continue
+        size = str(abs(number))
+        if power > 0:
+            letter = "x" + ("^" + str(power) if power > 1 else "")
+            size = letter if size == "1" else size + "*" + letter
+        if text:
+            text += (" - " if number < 0 else " + ") + size
+        else:
+            text = ("-" if number < 0 else "") + size
+    return text or "0"
+
+
+def polynomial(rows):
+    """The polynomial of a table, by the traces of its powers times what came before."""
+    size = len(rows)
+    numbers = [Fraction(1)]
+    work = unit(size)
+    for k in range(1, size + 1):
+        step = product(rows, work)
+        number = -sum(step[i][i] for i in range(size)) / Fraction(k)
+        numbers.append(number)
+        work = [[step[i][j] + (number if i == j else 0) for j in range(size)] for i in range(size)]
+    return numbers[::-1]
+
+
+def least_polynomial(rows):
+    """The first power of a table that is a sum of the lower ones times numbers tells it."""
+    size = len(rows)
+    basis = []
+    power = unit(size)
+    for k in range(size + 1):
+        line = [Fraction(x) for row in power for x in row]
+        track = [Fraction(int(i == k)) for i in range(size + 1)]
+        for pivot, other, other_track in basis:
+            factor = line[pivot] / other[pivot]
+            line = [x - factor * y for x, y in zip(line, other)]
+            track = [x - factor * y for x, y in zip(track, other_track)]
+        pivot = next((i for i, x in enumerate(line) if x != 0), None)
+        if pivot is None:
+            return track[:k + 1]
+        basis.append((pivot, line, track))
+        power = product(power, rows)
+    raise AssertionError("a table solves its own polynomial")
+
+
+def trim(p):
+    while p and p[-1] == 0:
+        p = p[:-1]
+    return p
+
+
+def less_times(p, factor, shift, q):
+    """p less factor * x^shift * q."""
+    size = max(len(p), len(q) + shift)
+    result = list(p) + [Fraction(0)] * (size - len(p))
+    for i, y in enumerate(q):
+        result[i + shift] -= factor * y
+    return trim(result)
+
+
+def polynomial_rows(rows):
+    size = len(rows)
+    return [[trim([-Fraction(rows[i][j])] + [Fraction(int(i == j))]) for j in range(size)] for i in range(size)]
+
+
+def least_place(work, k):
+    size = len(work)
+    places = [(len(work[i][j]), i, j) for i in range(k, size) for j in range(k, size) if work[i][j]]
+    return min(places)
+
+
+def bring_to_corner(work, k):
+    """The entry of the least degree from row and column k on goes to the corner there."""
+    _, i, j = least_place(work, k)
+    work[k], work[i] = work[i], work[k]
+    for row in work:
+        row[k], row[j] = row[j], row[k]
+
+
+def lower_row(work, k, i):
+    while len(work[i][k]) >= len(work[k][k]):
+        factor = work[i][k][-1] / work[k][k][-1]
+        shift = len(work[i][k]) - len(work[k][k])
+        work[i] = [less_times(x, factor, shift, y) for x, y in zip(work[i], work[k])]
+
+
+def turned(work):
+    return [list(line) for line in zip(*work)]
+
+
+def left_over(work, k):
+    """A row from k + 1 on with an entry that the corner at k doesn't go into, or None."""
+    for i in range(k + 1, len(work)):
+        for j in range(k + 1, len(work)):
+            rest = work[i][j]
+            while len(rest) >= len(work[k][k]):
+                rest = less_times(rest, rest[-1] / work[k][k][-1], len(rest) - len(work[k][k]), work[k][k])
+            if rest:
+                return i
+    return None
+
+
+def cleared(work, k):
+    """By steps that keep the forms: 0 beside and below the corner at k, which goes into all the rest."""
+    while True:
+        bring_to_corner(work, k)
+        for turn in range(2):
+            for i in range(k + 1, len(work)):
+                lower_row(work, k, i)
+            work = turned(work)
+        if any(work[i][k] or work[k][i] for i in range(k + 1, len(work))):
+            continue
+        row = left_over(work, k)
+        if row is None:
+            return work
+        work[k] = [less_times(x, Fraction(-1), 0, y) for x, y in zip(work[k], work[row])]
+
+
+def forms(rows):
+    """The forms, by making x less the table diagonal."""
+    work = polynomial_rows(rows)
+    for k in range(len(work)):
+        work = cleared(work, k)
+    found = [[x / work[k][k][-1] for x in work[k][k]] for k in range(len(work))]
+    return [form for form in found if len(form) > 1]

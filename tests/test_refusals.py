@@ -1,0 +1,137 @@
+"""What forms and char refuse, and which refusal comes first."""
+
+import unittest
+
+import helper
+from tablesalike.tables import char, forms
+
+WRONG = (
+    "", "-0", "00", "01", "-01", "000001", "1/1", "3/1", "2/4", "-2/4", "0/5", "-0/5", "0/1", "1/0", "-1/0", "0/0",
+    "+1", " 1", "1 ", "1/", "/2", "-/2", "/", "-", "-1/", "--1", "1/-2", "-1/-2", "1/+2", "1-", "1-2", "01/2", "1/02",
+    "1/2/3", "1//2", "1.5", "1e3", "x", "1x", "0x1", "1_0", "1\n", "1\t", "\n1", "1/ 2", "1 /2", "1:", ":", "1/:",
+    "\u00b2", "\u0661", "\x00", "1\x00", "4/6", "999999/999999", "999999/3", "-999999/7",
+)
+
+RIGHT = {
+    "0": "x", "1": "x - 1", "9": "x - 9", "10": "x - 10", "-1": "x + 1", "-10": "x + 10", "1/2": "x - 1/2",
+    "-1/2": "x + 1/2", "10/9": "x - 10/9", "123456": "x - 123456", "999999": "x - 999999", "-999999": "x + 999999",
+    "999999/2": "x - 999999/2", "1/999999": "x - 1/999999", "-999998/999999": "x + 999998/999999",
+    "-1/100000": "x + 1/100000", "100000/3": "x - 100000/3",
+}
+
+LONG = (
+    "1000000", "-1000000", "1234567", "9999999", "1000000/3", "-1000000/3", "1/1000000", "-1/1000000",
+    "999999/1000000", "1000000/999999", "1000001/1000000", "1" + "0" * 999, "-" + "9" * 999, "1/" + "9" * 998,
+    "1" + "0" * 498 + "/" + "9" * 499, "9" * 998 + "/2",
+)
+
+WRONG_AND_LONG = (
+    "1000000/2", "-1000000/2", "2/1000000", "1000000/1", "1000000/0", "0/1000000", "01000000", "-01000000", "1/01000000",
+    "0000000", "-0000000", "1000000x", "x1000000", "1000000/", "/1000000", "--1000000", "0" * 1000, "9" * 999 + "x",
+    "9" * 499 + "/" + "3" * 500, "9" * 500 + "/" + "3" * 499, "6" + "0" * 498 + "/" + "9" * 499,
+    "2" + "0" * 498 + "/" + "4" * 499,
+)
+
+
+def told_alone(text):
+    return list(text.encode())
+
+
+class Both(unittest.TestCase):
+    """Each check is made of forms and of char."""
+
+    def refused(self, texts, number):
+        self.assertEqual(forms(texts), [number])
+        self.assertEqual(char(texts), [number])
+
+    def taken(self, texts):
+        self.assertGreater(forms(texts)[0], 0)
+        self.assertEqual(char(texts)[0], 2)
+
+
+class HowMany(Both):
+    def test_every_count(self):
+        for count in range(21):
+            texts = [[49]] * count
+            if count in (1, 4, 9, 16):
+                self.taken(texts)
+            else:
+                self.refused(texts, -6)
+
+    def test_before_a_text_that_is_no_number(self):
+        for count in (2, 3, 5, 8, 10, 15, 17, 20):
+            self.refused([[]] * count, -6)
+            self.refused([[49]] * (count - 1) + [told_alone("x")], -6)
+
+    def test_before_a_long_number(self):
+        for count in (2, 3, 5, 8, 10, 15, 17, 20):
+            self.refused([told_alone("1000000")] * count, -6)
+            self.refused([told_alone("x"), told_alone("1000000")] + [[49]] * 18, -6)
+
+
+class Numbers(Both):
+    def at_every_place(self, text, number):
+        for count in (1, 4, 9, 16):
+            for place in range(count):
+                texts = [[49]] * count
+                texts[place] = told_alone(text)
+                self.refused(texts, number)
+
+    def test_right(self):
+        for text, polynomial in RIGHT.items():
+            with self.subTest(text=text):
+                self.assertEqual(helper.shown(forms([told_alone(text)])), [1, polynomial])
+                self.assertEqual(helper.shown(char([told_alone(text)])), [2, polynomial, polynomial])
+
+    def test_wrong(self):
+        for text in WRONG:
+            with self.subTest(text=text):
+                self.at_every_place(text, -1)
+
+    def test_long(self):
+        for text in LONG:
+            with self.subTest(text=text[:20]):
+                self.at_every_place(text, -2)
+
+    def test_wrong_and_long(self):
+        for text in WRONG_AND_LONG:
+            with self.subTest(text=text[:20]):
+                self.at_every_place(text, -1)
+
+    def test_every_byte_alone(self):
+        for byte in range(256):
+            if 48 <= byte <= 57:
+                self.taken([[byte]])
+            else:
+                self.refused([[byte]], -1)
+
+    def test_every_byte_behind_a_digit(self):
+        for byte in range(256):
+            if 48 <= byte <= 57:
+                self.taken([[49, byte]])
+            else:
+                self.refused([[49, byte]], -1)
+
+    def test_every_byte_within_a_fraction(self):
+        for byte in range(256):
+            if 50 <= byte <= 57:
+                self.taken([[49, 47, byte]])
+            else:
+                self.refused([[49, 47, byte]], -1)
+
+    def test_wrong_behind_and_ahead_of_long(self):
+        for count in (4, 9, 16):
+            for place in range(1, count):
+                texts = [[49]] * count
+                texts[0] = told_alone("1000000")
+                texts[place] = told_alone("2/4")
+                self.refused(texts, -1)
+                self.refused(texts[::-1], -1)
+
+    def test_six_digits_everywhere(self):
+        for count in (1, 4, 9, 16):
+            self.taken([told_alone("-999999/999998")] * count)
+
+
+if __name__ == "__main__":
+    unittest.main()

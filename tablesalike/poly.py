@@ -49,7 +49,7 @@ def poly_divided(p, q):
 
 
 def with_one_on_top(p):
-    """p by the number at its highest power; p isn't 0."""
+    """p by the number at its highest power; 0 stays 0."""
     return [ratio_quotient(number, p[-1]) for number in p]
 
 
@@ -61,8 +61,8 @@ def poly_common(p, q):
         rest = poly_divided(larger, smaller)[1]
         larger = smaller
         # without this the numbers would grow from step to step
-        smaller = with_one_on_top(rest) if len(rest) > 0 else rest
-    return with_one_on_top(larger) if len(larger) > 0 else larger
+        smaller = with_one_on_top(rest)
+    return with_one_on_top(larger)
 
 
 def common_of_all(polys):

@@ -1,5 +1,7 @@
 """What the tests share: texts to bytes and back, and the same answers reckoned by other ways."""
 
+import itertools
+import random
 from fractions import Fraction
 
 
@@ -211,3 +213,42 @@ def forms(rows):
         work = cleared(work, k)
     found = [[x / work[k][k][-1] for x in work[k][k]] for k in range(len(work))]
     return [form for form in found if len(form) > 1]
+
+
+def cut_in_rows(numbers, size):
+    return [[Fraction(number) for number in numbers[i:i + size]] for i in range(0, size * size, size)]
+
+
+def small_tables_of_two_rows():
+    """All of some numbers."""
+    for numbers in itertools.product(("-1", "0", "1", "2", "1/2", "-2/3"), repeat=4):
+        yield cut_in_rows(numbers, 2)
+
+
+def tables_of_three_rows_of_0s_and_1s():
+    """All."""
+    for numbers in itertools.product((0, 1), repeat=9):
+        yield cut_in_rows(numbers, 3)
+
+
+def some_tables_of_four_rows():
+    """With many 0s, so that some have several forms; the same ones every time."""
+    source = random.Random(4)
+    for _ in range(300):
+        yield cut_in_rows([source.choice(("0", "0", "0", "1", "-1", "3/2")) for _ in range(16)], 4)
+
+
+def tables_of_long_numbers():
+    source = random.Random(5)
+    for size in (1, 2, 3, 4) * 3:
+        numbers = [
+            Fraction(source.randint(-999999, 999999), source.randint(1, 999999)) for _ in range(size * size)
+        ]
+        yield cut_in_rows(numbers, size)
+
+
+def sample_tables():
+    yield from small_tables_of_two_rows()
+    yield from tables_of_three_rows_of_0s_and_1s()
+    yield from some_tables_of_four_rows()
+    yield from tables_of_long_numbers()

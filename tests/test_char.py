@@ -1,9 +1,6 @@
 """char: 2, then a table's polynomial, then its least polynomial."""
 
-import itertools
-import random
 import unittest
-from fractions import Fraction
 
 import helper
 from tablesalike.tables import char, forms
@@ -80,29 +77,9 @@ class ByOtherWays(unittest.TestCase):
         self.assertEqual(answered(words), expected, words)
         self.assertEqual(helper.shown(forms(helper.told(words)))[-1], expected[2], words)
 
-    def test_all_small_tables_of_two_rows(self):
-        numbers = [Fraction(text) for text in ("-1", "0", "1", "3", "-1/2", "2/3")]
-        for a, b, c, d in itertools.product(numbers, repeat=4):
-            self.check([[a, b], [c, d]])
-
-    def test_all_tables_of_three_rows_of_0s_and_1s(self):
-        for bits in itertools.product((0, 1), repeat=9):
-            self.check([bits[0:3], bits[3:6], bits[6:9]])
-
-    def test_some_tables_of_four_rows(self):
-        source = random.Random(14)
-        for _ in range(300):
-            numbers = [Fraction(source.choice(("0", "0", "0", "1", "-1", "3/2"))) for _ in range(16)]
-            self.check([numbers[i:i + 4] for i in range(0, 16, 4)])
-
-    def test_long_numbers(self):
-        source = random.Random(15)
-        for size in (1, 2, 3, 4):
-            for _ in range(3):
-                self.check([
-                    [Fraction(source.randint(-999999, 999999), source.randint(1, 999999)) for _ in range(size)]
-                    for _ in range(size)
-                ])
+    def test_sample_tables(self):
+        for rows in helper.sample_tables():
+            self.check(rows)
 
 
 if __name__ == "__main__":

@@ -1,7 +1,6 @@
 """forms: how many; then they."""
 
 import itertools
-import random
 import unittest
 from fractions import Fraction
 
@@ -87,29 +86,9 @@ class ByOtherWays(unittest.TestCase):
         words = helper.words_of(rows)
         self.assertEqual(answered(words), expected, words)
 
-    def test_all_small_tables_of_two_rows(self):
-        numbers = [Fraction(text) for text in ("-1", "0", "1", "2", "1/2", "-2/3")]
-        for a, b, c, d in itertools.product(numbers, repeat=4):
-            self.check([[a, b], [c, d]])
-
-    def test_all_tables_of_three_rows_of_0s_and_1s(self):
-        for bits in itertools.product((0, 1), repeat=9):
-            self.check([bits[0:3], bits[3:6], bits[6:9]])
-
-    def test_some_tables_of_four_rows(self):
-        source = random.Random(4)
-        for _ in range(300):
-            numbers = [Fraction(source.choice(("0", "0", "0", "1", "-1", "1/2"))) for _ in range(16)]
-            self.check([numbers[i:i + 4] for i in range(0, 16, 4)])
-
-    def test_long_numbers(self):
-        source = random.Random(5)
-        for size in (1, 2, 3, 4):
-            for _ in range(3):
-                self.check([
-                    [Fraction(source.randint(-999999, 999999), source.randint(1, 999999)) for _ in range(size)]
-                    for _ in range(size)
-                ])
+    def test_sample_tables(self):
+        for rows in helper.sample_tables():
+            self.check(rows)
 
 
 def chains(size, factors):

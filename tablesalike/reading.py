@@ -12,6 +12,7 @@ MOST = 999999
 
 # how many rows a table has, by how many numbers
 ROWS = {1: 1, 4: 2, 9: 3, 16: 4}
+MOST_ROWS = 4
 
 NOT_SO_MANY = -6
 NOT_A_NUMBER = -1
@@ -56,13 +57,18 @@ def number_of(text):
     return (-size[0], size[1])
 
 
+def numbers_of(texts):
+    """The fraction of each text, None where it isn't a number's."""
+    return [number_of(text) for text in texts]
+
+
 def is_long(number):
     return abs(number[0]) > MOST or number[1] > MOST
 
 
 def numbers_refusal(texts):
     """The refusal of texts that should be numbers', or 0 if they are."""
-    numbers = [number_of(text) for text in texts]
+    numbers = numbers_of(texts)
     if None in numbers:
         return NOT_A_NUMBER
     if any([is_long(number) for number in numbers]):
@@ -77,8 +83,15 @@ def table_refusal(texts):
     return numbers_refusal(texts)
 
 
+def counted_refusal(n, texts, count):
+    """The refusal of count texts that should be numbers', beside how many rows a table has, or 0 if there's none."""
+    if n < 1 or n > MOST_ROWS or len(texts) != count:
+        return NOT_SO_MANY
+    return numbers_refusal(texts)
+
+
 def table_of(texts):
     """The table, a list of rows, of texts that aren't refused."""
     size = ROWS[len(texts)]
-    numbers = [number_of(text) for text in texts]
+    numbers = numbers_of(texts)
     return [numbers[at * size:(at + 1) * size] for at in range(size)]

@@ -1,8 +1,9 @@
 """The calls: each takes texts as lists of bytes and answers one list of whole numbers."""
 
-from tablesalike.reading import table_of, table_refusal
+from tablesalike.grid import along_diagonal
+from tablesalike.reading import counted_refusal, table_of, table_refusal
 from tablesalike.square import forms_of, polynomial_of
-from tablesalike.writing import answer, poly_text
+from tablesalike.writing import answer, poly_text, table_answer
 
 
 def forms(a):
@@ -22,3 +23,21 @@ def char(a):
     table = table_of(a)
     least = forms_of(table)[-1]
     return answer(2, [poly_text(polynomial_of(table)), poly_text(least)])
+
+
+def alike(n, texts):
+    """1 if the two tables have the same forms, else 0."""
+    half = n * n
+    refusal = counted_refusal(n, texts, 2 * half)
+    if refusal < 0:
+        return [refusal]
+    same = forms_of(table_of(texts[:half])) == forms_of(table_of(texts[half:]))
+    return [1 if same else 0]
+
+
+def plain(a):
+    """The table with the tables of the forms along its diagonal: how many rows it has; then its numbers."""
+    refusal = table_refusal(a)
+    if refusal < 0:
+        return [refusal]
+    return table_answer(along_diagonal(forms_of(table_of(a))))

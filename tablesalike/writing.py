@@ -34,6 +34,14 @@ def poly_text(p):
     return text
 
 
+def table_answer(table):
+    """How many rows the table has, then its numbers, row by row."""
+    texts = []
+    for row in table:
+        texts.extend([number_text(number) for number in row])
+    return answer(len(table), texts)
+
+
 def answer(first, texts):
     """The number, then of each text how many bytes it has and its bytes."""
     told = [first]

@@ -252,3 +252,49 @@ def sample_tables():
     yield from tables_of_three_rows_of_0s_and_1s()
     yield from some_tables_of_four_rows()
     yield from tables_of_long_numbers()
+
+
+FACTORS = (
+    [Fraction(0), Fraction(1)],
+    [Fraction(-1, 2), Fraction(1)],
+    [Fraction(2), Fraction(1)],
+    [Fraction(1), Fraction(0), Fraction(1)],
+    [Fraction(-2), Fraction(0), Fraction(1)],
+)
+AXES = {
+    1: [[[3]]],
+    2: [[[1, 2], [0, 1]], [[2, 1], [1, 1]], [[0, 3], [1, 1]]],
+    3: [[[1, 2, 0], [0, 1, -1], [1, 0, 1]], [[0, 0, 1], [1, 1, 0], [0, 2, 1]]],
+    4: [[[1, 0, 2, 0], [1, 1, 0, 0], [0, 0, 1, 3], [0, 1, 0, 1]], [[0, 1, 0, 0], [1, 0, 1, 0], [0, 1, 1, 1], [1, 1, 1, 2]]],
+}
+
+
+def product_of(polys):
+    result = [Fraction(1)]
+    for p in polys:
+        result = poly_times(result, p)
+    return result
+
+
+def multiples(p, degree):
+    """p times factors, of at most that degree, without 1."""
+    for count in range(degree + 1):
+        for picked in itertools.combinations_with_replacement(FACTORS, count):
+            multiple = product_of((p,) + picked)
+            if 1 < len(multiple) <= degree + 1:
+                yield multiple
+
+
+def chains(size, before=(Fraction(1),)):
+    """Lists of polynomials, each going into the next one, with degrees that add up to size."""
+    if size == 0:
+        return [[]]
+    found = []
+    for form in multiples(list(before), size):
+        found.extend([form] + behind for behind in chains(size - len(form) + 1, form))
+    return found
+
+
+def plain(forms):
+    """The table with the tables of these polynomials along its diagonal."""
+    return along_diagonal([table_of_polynomial(form[:-1]) for form in forms])

@@ -2,7 +2,6 @@
 
 import itertools
 import unittest
-from fractions import Fraction
 
 import helper
 from tablesalike.tables import forms
@@ -91,51 +90,15 @@ class ByOtherWays(unittest.TestCase):
             self.check(rows)
 
 
-def chains(size, factors):
-    """Lists of polynomials, each going into the next one, with degrees that add up to size."""
-    if size == 0:
-        return [[]]
-    found = []
-    for count in range(1, size + 1):
-        for picked in itertools.combinations_with_replacement(factors, count):
-            form = [Fraction(1)]
-            for factor in picked:
-                form = helper.poly_times(form, factor)
-            degree = len(form) - 1
-            for times in range(1, size // degree + 1):
-                if degree * times == size:
-                    found.append([form] * times)
-                for extra in factors:
-                    higher = helper.poly_times(form, extra)
-                    if degree * times + len(higher) - 1 == size:
-                        found.append([form] * times + [higher])
-    return found
-
-
 class ByOtherAxes(unittest.TestCase):
     """The forms of a table that is made of its forms, told by other axes, are these forms."""
 
-    FACTORS = (
-        [Fraction(0), Fraction(1)],
-        [Fraction(-1, 2), Fraction(1)],
-        [Fraction(2), Fraction(1)],
-        [Fraction(1), Fraction(0), Fraction(1)],
-        [Fraction(-2), Fraction(0), Fraction(1)],
-    )
-    AXES = {
-        1: [[[3]]],
-        2: [[[1, 2], [0, 1]], [[2, 1], [1, 1]], [[0, 3], [1, 1]]],
-        3: [[[1, 2, 0], [0, 1, -1], [1, 0, 1]], [[0, 0, 1], [1, 1, 0], [0, 2, 1]]],
-        4: [[[1, 0, 2, 0], [1, 1, 0, 0], [0, 0, 1, 3], [0, 1, 0, 1]], [[0, 1, 0, 0], [1, 0, 1, 0], [0, 1, 1, 1], [1, 1, 1, 2]]],
-    }
-
     def test_chains_of_forms(self):
-        for size, all_axes in self.AXES.items():
-            made = chains(size, self.FACTORS)
+        for size, all_axes in helper.AXES.items():
+            made = helper.chains(size)
             self.assertGreater(len(made), 2)
             for chain, axes in itertools.product(made, all_axes):
-                blocks = [helper.table_of_polynomial(form[:-1]) for form in chain]
-                rows = helper.by_other_axes(helper.along_diagonal(blocks), axes)
+                rows = helper.by_other_axes(helper.plain(chain), axes)
                 expected = [len(chain)] + [helper.written(form) for form in chain]
                 self.assertEqual(answered(helper.words_of(rows)), expected)
 

@@ -2,18 +2,37 @@
 
 import contextlib
 import copy
+import inspect
 import io
 import unittest
 
 import helper
 from tablesalike import tables
 
-INPUTS = (
+ONE_TABLE = (
     "", "1", "-1/2", "x", "1000000", "1 2 3", "1 2 3 4", "2 0 0 2", "1 2 3 01", "1000000 2 3 -0",
     "2 0 0 0 2 0 0 0 3", "1/2 0 0 0 0 1/2 0 0 0 0 -1/3 0 0 0 0 2", "0 1 0 0 0 0 1 0 0 0 0 0 0 0 0 0",
     "1 1 1 1 1 1 1 1 1 1 1 1 1 1 1 1 1 1 1 1",
 )
-CALLS = (tables.forms, tables.char)
+TWO_TABLES = (
+    (0, ""), (1, ""), (1, "1 1"), (1, "1 -1/2"), (1, "1 1 1"), (1, "x 1000000"), (2, "1 2 3 4 4 3 2 1"),
+    (2, "2 0 0 2 2 1 0 2"), (2, "1000000 0 0 2 2 1 0 2"), (2, "1000000 0 0 2 2 1 0 -0"), (5, "1 1"), (4294967295, "1"),
+    (3, "2 0 0 0 2 0 0 0 3 3 0 0 0 2 0 0 0 2"), (4, " ".join(["1/2", "0", "-3", "0"] * 8)), (4, " ".join(["1"] * 40)),
+)
+
+# each call with its arguments, ready to be handed in
+HANDED = (
+    [(call, (helper.told(words),)) for call in (tables.forms, tables.char, tables.plain) for words in ONE_TABLE]
+    + [(tables.alike, (n, helper.told(words))) for n, words in TWO_TABLES]
+)
+
+# how many texts stand behind the first number, by that number
+TEXTS_BEHIND = {
+    "forms": lambda first: first,
+    "char": lambda first: 2,
+    "plain": lambda first: first * first,
+    "alike": lambda first: 0,
+}
 
 
 class Unchanging(list):
@@ -26,67 +45,64 @@ class Unchanging(list):
     __setitem__ = __delitem__ = __iadd__ = __imul__ = refuse
 
 
+def unchanging(arguments):
+    """The same arguments, the last one and its texts as lists that can't be changed."""
+    return arguments[:-1] + (Unchanging([Unchanging(text) for text in arguments[-1]]),)
+
+
 class Interface(unittest.TestCase):
+    def test_the_calls_and_their_arguments(self):
+        expected = {"forms": ["a"], "char": ["a"], "alike": ["n", "texts"], "plain": ["a"]}
+        for name, arguments in expected.items():
+            self.assertEqual(list(inspect.signature(getattr(tables, name)).parameters), arguments)
+            self.assertIn(name, TEXTS_BEHIND)
+            self.assertIn(name, [call.__name__ for call, _ in HANDED])
+
     def test_what_is_handed_in_is_as_it_was(self):
-        for call in CALLS:
-            for words in INPUTS:
-                handed = helper.told(words)
-                before = copy.deepcopy(handed)
-                call(handed)
-                self.assertEqual(handed, before)
+        for call, arguments in HANDED:
+            handed = copy.deepcopy(arguments)
+            call(*handed)
+            self.assertEqual(handed, arguments)
 
     def test_what_is_handed_in_is_not_changed_for_a_while(self):
-        for call in CALLS:
-            for words in INPUTS:
-                handed = Unchanging([Unchanging(text) for text in helper.told(words)])
-                self.assertEqual(call(handed), call(helper.told(words)))
+        for call, arguments in HANDED:
+            self.assertEqual(call(*unchanging(arguments)), call(*arguments))
 
     def test_one_list_as_several_texts(self):
         text = [50]
         self.assertEqual(tables.forms([text] * 4), tables.forms(helper.told("2 2 2 2")))
+        self.assertEqual(tables.plain([text] * 4), tables.plain(helper.told("2 2 2 2")))
+        self.assertEqual(tables.alike(2, [text] * 8), [1])
 
     def test_a_second_call_answers_as_the_first(self):
-        for call in CALLS:
-            first = [call(helper.told(words)) for words in INPUTS]
-            second = [call(helper.told(words)) for words in reversed(INPUTS)]
-            self.assertEqual(first, second[::-1])
+        first = [call(*arguments) for call, arguments in HANDED]
+        second = [call(*arguments) for call, arguments in reversed(HANDED)]
+        self.assertEqual(first, second[::-1])
 
     def test_what_was_given_back_may_be_changed(self):
-        for call in CALLS:
-            for words in INPUTS:
-                handed = helper.told(words)
-                first = call(handed)
-                kept = list(first)
-                first.clear()
-                self.assertEqual(call(handed), kept)
-
-    def test_the_calls_do_not_disturb_one_another(self):
-        alone = tables.forms(helper.told("2 0 0 2"))
-        tables.char(helper.told("1 2 3 4"))
-        self.assertEqual(tables.forms(helper.told("2 0 0 2")), alone)
+        for call, arguments in HANDED:
+            first = call(*arguments)
+            kept = list(first)
+            first.clear()
+            self.assertEqual(call(*arguments), kept)
 
     def test_lists_of_whole_numbers(self):
-        for call in CALLS:
-            for words in INPUTS:
-                answer = call(helper.told(words))
-                self.assertIs(type(answer), list)
-                self.assertEqual({type(number) for number in answer}, {int})
-                if answer[0] < 0:
-                    self.assertEqual(len(answer), 1)
-                else:
-                    self.assertEqual(len(helper.shown(answer)), answer[0] + 1)
+        for call, arguments in HANDED:
+            answer = call(*arguments)
+            self.assertIs(type(answer), list)
+            self.assertEqual({type(number) for number in answer}, {int})
+            if answer[0] < 0:
+                self.assertEqual(len(answer), 1)
+            else:
+                count = TEXTS_BEHIND[call.__name__](answer[0])
+                self.assertEqual(len(helper.shown(answer)), count + 1)
 
     def test_nothing_is_printed(self):
         out = io.StringIO()
         with contextlib.redirect_stdout(out), contextlib.redirect_stderr(out):
-            for call in CALLS:
-                for words in INPUTS:
-                    call(helper.told(words))
+            for call, arguments in HANDED:
+                call(*arguments)
         self.assertEqual(out.getvalue(), "")
-
-    def test_the_arguments_name(self):
-        self.assertEqual(tables.forms(a=[[48]]), [1, 1, 120])
-        self.assertEqual(tables.char(a=[[48]]), [2, 1, 120, 1, 120])
 
 
 if __name__ == "__main__":

@@ -1,9 +1,10 @@
-"""What forms and char refuse, and which refusal comes first."""
+"""What the calls refuse of how many texts there are and of numbers, and which refusal comes first."""
 
+import itertools
 import unittest
 
 import helper
-from tablesalike.tables import char, forms
+from tablesalike.tables import alike, char, forms, plain
 
 WRONG = (
     "", "-0", "00", "01", "-01", "000001", "1/1", "3/1", "2/4", "-2/4", "0/5", "-0/5", "0/1", "1/0", "-1/0", "0/0",
@@ -37,19 +38,21 @@ def told_alone(text):
     return list(text.encode())
 
 
-class Both(unittest.TestCase):
-    """Each check is made of forms and of char."""
+class OneTable(unittest.TestCase):
+    """Each check is made of all the calls that are handed a table alone."""
 
     def refused(self, texts, number):
         self.assertEqual(forms(texts), [number])
         self.assertEqual(char(texts), [number])
+        self.assertEqual(plain(texts), [number])
 
     def taken(self, texts):
         self.assertGreater(forms(texts)[0], 0)
         self.assertEqual(char(texts)[0], 2)
+        self.assertEqual(plain(texts)[0] ** 2, len(texts))
 
 
-class HowMany(Both):
+class HowMany(OneTable):
     def test_every_count(self):
         for count in range(21):
             texts = [[49]] * count
@@ -69,7 +72,7 @@ class HowMany(Both):
             self.refused([told_alone("x"), told_alone("1000000")] + [[49]] * 18, -6)
 
 
-class Numbers(Both):
+class Numbers(OneTable):
     def at_every_place(self, text, number):
         for count in (1, 4, 9, 16):
             for place in range(count):
@@ -82,6 +85,7 @@ class Numbers(Both):
             with self.subTest(text=text):
                 self.assertEqual(helper.shown(forms([told_alone(text)])), [1, polynomial])
                 self.assertEqual(helper.shown(char([told_alone(text)])), [2, polynomial, polynomial])
+                self.assertEqual(helper.shown(plain([told_alone(text)])), [1, text])
 
     def test_wrong(self):
         for text in WRONG:
@@ -131,6 +135,84 @@ class Numbers(Both):
     def test_six_digits_everywhere(self):
         for count in (1, 4, 9, 16):
             self.taken([told_alone("-999999/999998")] * count)
+
+
+# of each call that is handed n: how many texts it takes by n, where its numbers start, how many may be handed in
+BESIDE_N = (
+    (alike, {1: 2, 2: 8, 3: 18, 4: 32}, 0, 40),
+)
+
+
+class BesideN(unittest.TestCase):
+    """Each check is made of all the calls that are handed how many rows a table has."""
+
+    def places(self):
+        """The call, n, how many texts it takes and the place of a number, for each such place."""
+        for call, counts, start, _ in BESIDE_N:
+            for n, count in counts.items():
+                for place in range(start, count):
+                    yield call, n, count, place
+
+    def at_every_place(self, text, number):
+        for call, n, count, place in self.places():
+            texts = [[49]] * count
+            texts[place] = told_alone(text)
+            self.assertEqual(call(n, texts), [number], (call.__name__, n, place))
+
+    def test_every_count(self):
+        for call, counts, _, most in BESIDE_N:
+            for n in (0, 1, 2, 3, 4, 5, 6, 16, 65536, 2147483648, 4294967294, 4294967295):
+                for count in range(most + 1):
+                    answer = call(n, [[49]] * count)
+                    if counts.get(n) == count:
+                        self.assertGreaterEqual(answer[0], 0)
+                    else:
+                        self.assertEqual(answer, [-6], (call.__name__, n, count))
+
+    def test_count_before_numbers(self):
+        for call, counts, _, most in BESIDE_N:
+            for n in (0, 1, 2, 3, 4, 5, 4294967295):
+                for count in range(most + 1):
+                    if counts.get(n) != count:
+                        for texts in ([[]] * count, [told_alone("1000000")] * count, [told_alone("x + ")] * count):
+                            self.assertEqual(call(n, texts), [-6], (call.__name__, n, count))
+
+    def test_right(self):
+        for text in RIGHT:
+            for call, n, count, place in self.places():
+                texts = [[49]] * count
+                texts[place] = told_alone(text)
+                self.assertGreaterEqual(call(n, texts)[0], 0, (call.__name__, n, place))
+
+    def test_wrong(self):
+        for text in WRONG:
+            with self.subTest(text=text):
+                self.at_every_place(text, -1)
+
+    def test_long(self):
+        for text in LONG:
+            with self.subTest(text=text[:20]):
+                self.at_every_place(text, -2)
+
+    def test_wrong_and_long(self):
+        for text in WRONG_AND_LONG:
+            with self.subTest(text=text[:20]):
+                self.at_every_place(text, -1)
+
+    def test_wrong_behind_and_ahead_of_long(self):
+        for call, counts, start, _ in BESIDE_N:
+            for n, count in counts.items():
+                for wrong, far in itertools.permutations(range(start, count), 2):
+                    texts = [[49]] * count
+                    texts[wrong] = told_alone("2/4")
+                    texts[far] = told_alone("1000000")
+                    self.assertEqual(call(n, texts), [-1], (call.__name__, n, wrong, far))
+
+    def test_six_digits_everywhere(self):
+        for call, counts, start, _ in BESIDE_N:
+            for n, count in counts.items():
+                texts = [[49]] * start + [told_alone("-999999/999998")] * (count - start)
+                self.assertGreaterEqual(call(n, texts)[0], 0)
 
 
 if __name__ == "__main__":

@@ -1,6 +1,6 @@
-"""Tables of fractions, lists of rows, that are made of polynomials."""
+"""Tables of fractions, lists of rows: ones that are made of polynomials, and what polynomials make of them."""
 
-from tablesalike.ratio import ONE, ZERO, ratio_minus
+from tablesalike.ratio import ONE, ZERO, ratio_minus, ratio_product, ratio_sum
 
 
 def empty_table(size):
@@ -24,3 +24,36 @@ def along_diagonal(forms):
         put_table_of(rows, start, form)
         start = start + len(form) - 1
     return rows
+
+
+def row_times(row, vector):
+    total = ZERO
+    for left, right in zip(row, vector):
+        total = ratio_sum(total, ratio_product(left, right))
+    return total
+
+
+def table_times(table, vector):
+    return [row_times(row, vector) for row in table]
+
+
+def column_of(table, at):
+    return [row[at] for row in table]
+
+
+def table_product(left, right):
+    columns = [column_of(right, at) for at in range(len(right))]
+    rows = []
+    for row in left:
+        rows.append([row_times(row, column) for column in columns])
+    return rows
+
+
+def poly_at(p, table):
+    """The polynomial p of the table."""
+    total = empty_table(len(table))
+    for number in reversed(p):
+        total = table_product(total, table)
+        for at in range(len(table)):
+            total[at][at] = ratio_sum(total[at][at], number)
+    return total

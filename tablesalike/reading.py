@@ -15,8 +15,8 @@ ROWS = {1: 1, 4: 2, 9: 3, 16: 4}
 MOST_ROWS = 4
 
 NOT_SO_MANY = -6
-NOT_A_NUMBER = -1
-TOO_LONG = -2
+WRONG_TEXT = -1
+TOO_LARGE = -2
 
 
 def whole_of(digits):
@@ -70,9 +70,9 @@ def numbers_refusal(texts):
     """The refusal of texts that should be numbers', or 0 if they are."""
     numbers = numbers_of(texts)
     if None in numbers:
-        return NOT_A_NUMBER
+        return WRONG_TEXT
     if any([is_long(number) for number in numbers]):
-        return TOO_LONG
+        return TOO_LARGE
     return 0
 
 

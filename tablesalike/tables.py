@@ -1,8 +1,10 @@
 """The calls: each takes texts as lists of bytes and answers one list of whole numbers."""
 
-from tablesalike.grid import along_diagonal
-from tablesalike.reading import counted_refusal, table_of, table_refusal
+from tablesalike.grid import along_diagonal, poly_at
+from tablesalike.poly_reading import poly_of, poly_refusal
+from tablesalike.reading import counted_refusal, numbers_of, table_of, table_refusal
 from tablesalike.square import forms_of, polynomial_of
+from tablesalike.vectors import least_polynomial_of
 from tablesalike.writing import answer, poly_text, table_answer
 
 
@@ -41,3 +43,24 @@ def plain(a):
     if refusal < 0:
         return [refusal]
     return table_answer(along_diagonal(forms_of(table_of(a))))
+
+
+def value(n, texts):
+    """The polynomial of the table: how many rows it has; then its numbers."""
+    # the numbers behind p are looked at first: what is wrong with them is told ahead of what is wrong with p
+    refusal = counted_refusal(n, texts[1:], n * n)
+    if refusal == 0:
+        refusal = poly_refusal(texts[0])
+    if refusal < 0:
+        return [refusal]
+    return table_answer(poly_at(poly_of(texts[0]), table_of(texts[1:])))
+
+
+def vector(n, texts):
+    """1; then the least polynomial of the vector."""
+    count = n * n
+    refusal = counted_refusal(n, texts, count + n)
+    if refusal < 0:
+        return [refusal]
+    least = least_polynomial_of(table_of(texts[:count]), numbers_of(texts[count:]))
+    return answer(1, [poly_text(least)])

@@ -10,6 +10,11 @@ def told(words):
     return [list(word.encode()) for word in words.split()]
 
 
+def told_alone(text):
+    """The bytes of one text, blanks and all."""
+    return list(text.encode())
+
+
 def shown(answer):
     """An answer's list as its first number and its texts."""
     parts = [answer[0]]
@@ -33,6 +38,34 @@ def product(left, right):
 
 def unit(size):
     return [[Fraction(int(i == j)) for j in range(size)] for i in range(size)]
+
+
+def times_vector(rows, vector):
+    return [sum(x * y for x, y in zip(row, vector)) for row in rows]
+
+
+def polynomial_at(numbers, rows):
+    """The polynomial, its numbers from power 0 on, of a table: power by power."""
+    size = len(rows)
+    total = [[Fraction(0)] * size for _ in range(size)]
+    power = unit(size)
+    for number in numbers:
+        total = [[x + Fraction(number) * y for x, y in zip(*lines)] for lines in zip(total, power)]
+        power = product(power, rows)
+    return total
+
+
+def rank(lines):
+    """How many of the lines at most don't hang on others."""
+    left = [[Fraction(x) for x in line] for line in lines]
+    found = 0
+    for column in range(len(left[0])):
+        pivot = next((line for line in left if line[column] != 0), None)
+        if pivot is not None:
+            found += 1
+            left.remove(pivot)
+            left = [[x - line[column] / pivot[column] * y for x, y in zip(line, pivot)] for line in left]
+    return found
 
 
 def inverse(rows):

@@ -19,11 +19,24 @@ TWO_TABLES = (
     (2, "2 0 0 2 2 1 0 2"), (2, "1000000 0 0 2 2 1 0 2"), (2, "1000000 0 0 2 2 1 0 -0"), (5, "1 1"), (4294967295, "1"),
     (3, "2 0 0 0 2 0 0 0 3 3 0 0 0 2 0 0 0 2"), (4, " ".join(["1/2", "0", "-3", "0"] * 8)), (4, " ".join(["1"] * 40)),
 )
+P_AND_TABLE = (
+    (0, "x", ""), (1, "0", "5"), (1, "x", "1 1"), (1, "x^1", "5"), (1, "x^9", "5"), (1, "", "01"), (1, "x^1", "1000000"),
+    (2, "3/2*x^2 - x + 1", "1 2 3 4"), (2, "x^8", "1/2 0 0 -1/3"), (3, "-x", "2 0 0 0 2 0 0 0 3"), (4294967295, "x", "1"),
+    (4, "x^8 - 999999/999998*x^3", " ".join(["1/2", "0", "-3", "0"] * 4)), (4, "x", " ".join(["1"] * 23)),
+)
+TABLE_AND_VECTOR = (
+    (0, ""), (1, ""), (1, "1 0"), (1, "1/2 -1"), (1, "1 1 1"), (1, "x 1000000"), (2, "1 2 3 4 1 0"), (2, "1 2 3 4 0 0"),
+    (2, "2 0 0 2 1 1"), (2, "1000000 0 0 2 2 01"), (2, "1 0 0 2 2 1000000"), (5, "1 1"), (4294967295, "1"),
+    (3, "2 0 0 0 2 0 0 0 3 1 1 1"), (4, " ".join(["1/2", "0", "-3", "0", "1"] * 4)), (4, " ".join(["1"] * 24)),
+)
 
 # each call with its arguments, ready to be handed in
 HANDED = (
     [(call, (helper.told(words),)) for call in (tables.forms, tables.char, tables.plain) for words in ONE_TABLE]
     + [(tables.alike, (n, helper.told(words))) for n, words in TWO_TABLES]
+    + [(tables.value, (n, [helper.told_alone(p)] + helper.told(words))) for n, p, words in P_AND_TABLE]
+    + [(tables.value, (n, [])) for n in (0, 1, 4, 5)]
+    + [(tables.vector, (n, helper.told(words))) for n, words in TABLE_AND_VECTOR]
 )
 
 # how many texts stand behind the first number, by that number
@@ -32,6 +45,8 @@ TEXTS_BEHIND = {
     "char": lambda first: 2,
     "plain": lambda first: first * first,
     "alike": lambda first: 0,
+    "value": lambda first: first * first,
+    "vector": lambda first: 1,
 }
 
 
@@ -52,7 +67,10 @@ def unchanging(arguments):
 
 class Interface(unittest.TestCase):
     def test_the_calls_and_their_arguments(self):
-        expected = {"forms": ["a"], "char": ["a"], "alike": ["n", "texts"], "plain": ["a"]}
+        expected = {
+            "forms": ["a"], "char": ["a"], "alike": ["n", "texts"], "plain": ["a"], "value": ["n", "texts"],
+            "vector": ["n", "texts"],
+        }
         for name, arguments in expected.items():
             self.assertEqual(list(inspect.signature(getattr(tables, name)).parameters), arguments)
             self.assertIn(name, TEXTS_BEHIND)
@@ -73,6 +91,8 @@ class Interface(unittest.TestCase):
         self.assertEqual(tables.forms([text] * 4), tables.forms(helper.told("2 2 2 2")))
         self.assertEqual(tables.plain([text] * 4), tables.plain(helper.told("2 2 2 2")))
         self.assertEqual(tables.alike(2, [text] * 8), [1])
+        self.assertEqual(helper.shown(tables.value(2, [text] * 5)), [2, "2", "0", "0", "2"])
+        self.assertEqual(helper.shown(tables.vector(2, [text] * 6)), [1, "x - 4"])
 
     def test_a_second_call_answers_as_the_first(self):
         first = [call(*arguments) for call, arguments in HANDED]

@@ -113,6 +113,39 @@ class Language(unittest.TestCase):
                         self.assertIsNone(name.asname)
                         self.assertIn(name.name, defined)
 
+    def test_no_two_files_draw_from_one_another(self):
+        drawn = {}
+        for path, tree in self.trees.items():
+            modules = [node.module for node in tree.body if isinstance(node, ast.ImportFrom)]
+            drawn["tablesalike." + path.stem] = set(modules)
+        while drawn:
+            free = [name for name, modules in drawn.items() if not modules & set(drawn)]
+            self.assertNotEqual(free, [], sorted(drawn))
+            for name in free:
+                drawn.pop(name)
+
+    def test_the_top_of_a_file(self):
+        for path, tree in self.trees.items():
+            names = []
+            for node in tree.body[1:]:
+                place = f"{path.name}:{node.lineno}"
+                self.assertIsInstance(node, (ast.ImportFrom, ast.FunctionDef, ast.Assign), place)
+                if isinstance(node, ast.FunctionDef):
+                    names.append(node.name)
+                if isinstance(node, ast.Assign):
+                    names.append(node.targets[0].id)
+                    # fails of anything but plain values
+                    ast.literal_eval(node.value)
+            self.assertIsNotNone(ast.get_docstring(tree), path.name)
+            self.assertEqual(len(names), len(set(names)), path.name)
+
+    def test_numbers_and_texts(self):
+        for place, node in self.nodes():
+            if isinstance(node, ast.Constant) and isinstance(node.value, str):
+                self.assertNotIn("%", node.value, place)
+            if isinstance(node, ast.BinOp) and isinstance(node.op, ast.Pow):
+                self.assertIn(getattr(node.right, "value", None), range(65), place)
+
     def test_names(self):
         for path, tree in self.trees.items():
             imported = {name.name for node in tree.body if isinstance(node, ast.ImportFrom) for name in node.names}

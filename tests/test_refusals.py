@@ -4,7 +4,7 @@ import itertools
 import unittest
 
 import helper
-from tablesalike.tables import alike, char, forms, plain
+from tablesalike.tables import alike, char, forms, plain, value, vector
 
 WRONG = (
     "", "-0", "00", "01", "-01", "000001", "1/1", "3/1", "2/4", "-2/4", "0/5", "-0/5", "0/1", "1/0", "-1/0", "0/0",
@@ -34,8 +34,23 @@ WRONG_AND_LONG = (
 )
 
 
-def told_alone(text):
-    return list(text.encode())
+class TextsOfNumbers:
+    """Needs at_every_place, which puts a text into the place of each number in turn."""
+
+    def test_wrong(self):
+        for text in WRONG:
+            with self.subTest(text=text):
+                self.at_every_place(text, -1)
+
+    def test_long(self):
+        for text in LONG:
+            with self.subTest(text=text[:20]):
+                self.at_every_place(text, -2)
+
+    def test_wrong_and_long(self):
+        for text in WRONG_AND_LONG:
+            with self.subTest(text=text[:20]):
+                self.at_every_place(text, -1)
 
 
 class OneTable(unittest.TestCase):
@@ -64,43 +79,28 @@ class HowMany(OneTable):
     def test_before_a_text_that_is_no_number(self):
         for count in (2, 3, 5, 8, 10, 15, 17, 20):
             self.refused([[]] * count, -6)
-            self.refused([[49]] * (count - 1) + [told_alone("x")], -6)
+            self.refused([[49]] * (count - 1) + [helper.told_alone("x")], -6)
 
     def test_before_a_long_number(self):
         for count in (2, 3, 5, 8, 10, 15, 17, 20):
-            self.refused([told_alone("1000000")] * count, -6)
-            self.refused([told_alone("x"), told_alone("1000000")] + [[49]] * 18, -6)
+            self.refused([helper.told_alone("1000000")] * count, -6)
+            self.refused([helper.told_alone("x"), helper.told_alone("1000000")] + [[49]] * 18, -6)
 
 
-class Numbers(OneTable):
+class Numbers(TextsOfNumbers, OneTable):
     def at_every_place(self, text, number):
         for count in (1, 4, 9, 16):
             for place in range(count):
                 texts = [[49]] * count
-                texts[place] = told_alone(text)
+                texts[place] = helper.told_alone(text)
                 self.refused(texts, number)
 
     def test_right(self):
         for text, polynomial in RIGHT.items():
             with self.subTest(text=text):
-                self.assertEqual(helper.shown(forms([told_alone(text)])), [1, polynomial])
-                self.assertEqual(helper.shown(char([told_alone(text)])), [2, polynomial, polynomial])
-                self.assertEqual(helper.shown(plain([told_alone(text)])), [1, text])
-
-    def test_wrong(self):
-        for text in WRONG:
-            with self.subTest(text=text):
-                self.at_every_place(text, -1)
-
-    def test_long(self):
-        for text in LONG:
-            with self.subTest(text=text[:20]):
-                self.at_every_place(text, -2)
-
-    def test_wrong_and_long(self):
-        for text in WRONG_AND_LONG:
-            with self.subTest(text=text[:20]):
-                self.at_every_place(text, -1)
+                self.assertEqual(helper.shown(forms([helper.told_alone(text)])), [1, polynomial])
+                self.assertEqual(helper.shown(char([helper.told_alone(text)])), [2, polynomial, polynomial])
+                self.assertEqual(helper.shown(plain([helper.told_alone(text)])), [1, text])
 
     def test_every_byte_alone(self):
         for byte in range(256):
@@ -127,23 +127,25 @@ class Numbers(OneTable):
         for count in (4, 9, 16):
             for place in range(1, count):
                 texts = [[49]] * count
-                texts[0] = told_alone("1000000")
-                texts[place] = told_alone("2/4")
+                texts[0] = helper.told_alone("1000000")
+                texts[place] = helper.told_alone("2/4")
                 self.refused(texts, -1)
                 self.refused(texts[::-1], -1)
 
     def test_six_digits_everywhere(self):
         for count in (1, 4, 9, 16):
-            self.taken([told_alone("-999999/999998")] * count)
+            self.taken([helper.told_alone("-999999/999998")] * count)
 
 
 # of each call that is handed n: how many texts it takes by n, where its numbers start, how many may be handed in
 BESIDE_N = (
     (alike, {1: 2, 2: 8, 3: 18, 4: 32}, 0, 40),
+    (value, {1: 2, 2: 5, 3: 10, 4: 17}, 1, 24),
+    (vector, {1: 2, 2: 6, 3: 12, 4: 20}, 0, 24),
 )
 
 
-class BesideN(unittest.TestCase):
+class BesideN(TextsOfNumbers, unittest.TestCase):
     """Each check is made of all the calls that are handed how many rows a table has."""
 
     def places(self):
@@ -156,7 +158,7 @@ class BesideN(unittest.TestCase):
     def at_every_place(self, text, number):
         for call, n, count, place in self.places():
             texts = [[49]] * count
-            texts[place] = told_alone(text)
+            texts[place] = helper.told_alone(text)
             self.assertEqual(call(n, texts), [number], (call.__name__, n, place))
 
     def test_every_count(self):
@@ -174,44 +176,29 @@ class BesideN(unittest.TestCase):
             for n in (0, 1, 2, 3, 4, 5, 4294967295):
                 for count in range(most + 1):
                     if counts.get(n) != count:
-                        for texts in ([[]] * count, [told_alone("1000000")] * count, [told_alone("x + ")] * count):
+                        for texts in ([[]] * count, [helper.told_alone("1000000")] * count, [helper.told_alone("x + ")] * count):
                             self.assertEqual(call(n, texts), [-6], (call.__name__, n, count))
 
     def test_right(self):
         for text in RIGHT:
             for call, n, count, place in self.places():
                 texts = [[49]] * count
-                texts[place] = told_alone(text)
+                texts[place] = helper.told_alone(text)
                 self.assertGreaterEqual(call(n, texts)[0], 0, (call.__name__, n, place))
-
-    def test_wrong(self):
-        for text in WRONG:
-            with self.subTest(text=text):
-                self.at_every_place(text, -1)
-
-    def test_long(self):
-        for text in LONG:
-            with self.subTest(text=text[:20]):
-                self.at_every_place(text, -2)
-
-    def test_wrong_and_long(self):
-        for text in WRONG_AND_LONG:
-            with self.subTest(text=text[:20]):
-                self.at_every_place(text, -1)
 
     def test_wrong_behind_and_ahead_of_long(self):
         for call, counts, start, _ in BESIDE_N:
             for n, count in counts.items():
                 for wrong, far in itertools.permutations(range(start, count), 2):
                     texts = [[49]] * count
-                    texts[wrong] = told_alone("2/4")
-                    texts[far] = told_alone("1000000")
+                    texts[wrong] = helper.told_alone("2/4")
+                    texts[far] = helper.told_alone("1000000")
                     self.assertEqual(call(n, texts), [-1], (call.__name__, n, wrong, far))
 
     def test_six_digits_everywhere(self):
         for call, counts, start, _ in BESIDE_N:
             for n, count in counts.items():
-                texts = [[49]] * start + [told_alone("-999999/999998")] * (count - start)
+                texts = [[49]] * start + [helper.told_alone("-999999/999998")] * (count - start)
                 self.assertGreaterEqual(call(n, texts)[0], 0)
 
 

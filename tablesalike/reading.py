@@ -95,3 +95,9 @@ def table_of(texts):
     size = ROWS[len(texts)]
     numbers = numbers_of(texts)
     return [numbers[at * size:(at + 1) * size] for at in range(size)]
+
+
+def tables_of(n, texts):
+    """The tables of n rows each, one behind the other, of texts that aren't refused."""
+    size = n * n
+    return [table_of(texts[at:at + size]) for at in range(0, len(texts), size)]

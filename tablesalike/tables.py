@@ -1,8 +1,9 @@
 """The calls: each takes texts as lists of bytes and answers one list of whole numbers."""
 
+from tablesalike.carrying import count_carried, does_carry, has_inverse
 from tablesalike.grid import along_diagonal, poly_at
 from tablesalike.poly_reading import poly_of, poly_refusal
-from tablesalike.reading import counted_refusal, numbers_of, table_of, table_refusal
+from tablesalike.reading import counted_refusal, numbers_of, table_of, table_refusal, tables_of
 from tablesalike.square import forms_of, polynomial_of
 from tablesalike.vectors import least_polynomial_of
 from tablesalike.writing import answer, poly_text, table_answer
@@ -29,12 +30,11 @@ def char(a):
 
 def alike(n, texts):
     """1 if the two tables have the same forms, else 0."""
-    half = n * n
-    refusal = counted_refusal(n, texts, 2 * half)
+    refusal = counted_refusal(n, texts, 2 * n * n)
     if refusal < 0:
         return [refusal]
-    same = forms_of(table_of(texts[:half])) == forms_of(table_of(texts[half:]))
-    return [1 if same else 0]
+    both = tables_of(n, texts)
+    return [1 if forms_of(both[0]) == forms_of(both[1]) else 0]
 
 
 def plain(a):
@@ -64,3 +64,22 @@ def vector(n, texts):
         return [refusal]
     least = least_polynomial_of(table_of(texts[:count]), numbers_of(texts[count:]))
     return answer(1, [poly_text(least)])
+
+
+def carried(n, texts):
+    """How many tables carry the first table into the second that don't hang on others."""
+    refusal = counted_refusal(n, texts, 2 * n * n)
+    if refusal < 0:
+        return [refusal]
+    both = tables_of(n, texts)
+    return [count_carried(both[0], both[1])]
+
+
+def carries(n, texts):
+    """1 if the third table carries the first into the second and has an inverse, else 0."""
+    refusal = counted_refusal(n, texts, 3 * n * n)
+    if refusal < 0:
+        return [refusal]
+    three = tables_of(n, texts)
+    holds = does_carry(three[0], three[1], three[2]) and has_inverse(three[2])
+    return [1 if holds else 0]

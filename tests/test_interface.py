@@ -29,14 +29,21 @@ TABLE_AND_VECTOR = (
     (2, "2 0 0 2 1 1"), (2, "1000000 0 0 2 2 01"), (2, "1 0 0 2 2 1000000"), (5, "1 1"), (4294967295, "1"),
     (3, "2 0 0 0 2 0 0 0 3 1 1 1"), (4, " ".join(["1/2", "0", "-3", "0", "1"] * 4)), (4, " ".join(["1"] * 24)),
 )
+THREE_TABLES = (
+    (0, ""), (1, ""), (1, "1 1"), (1, "1 1 1"), (1, "1 1 0"), (1, "1 1 1 1"), (1, "1 x 1000000"), (2, "2 0 0 3 3 0 0 2 0 1 1 0"),
+    (2, "1 2 3 4 4 3 2 1 1 0 0 1"), (2, "1 0 0 1 1000000 0 0 1 1 0 0 01"), (2, "1 0 0 1 1 0 0 1 1 0 0 1000000"), (5, "1 1 1"),
+    (3, " ".join(["2 0 0 0 2 0 0 0 3"] * 3)), (4, " ".join(["1/2", "0", "-3", "0"] * 12)), (4, " ".join(["1"] * 56)),
+    (4294967295, "1"),
+)
 
 # each call with its arguments, ready to be handed in
 HANDED = (
     [(call, (helper.told(words),)) for call in (tables.forms, tables.char, tables.plain) for words in ONE_TABLE]
-    + [(tables.alike, (n, helper.told(words))) for n, words in TWO_TABLES]
+    + [(call, (n, helper.told(words))) for call in (tables.alike, tables.carried) for n, words in TWO_TABLES]
     + [(tables.value, (n, [helper.told_alone(p)] + helper.told(words))) for n, p, words in P_AND_TABLE]
     + [(tables.value, (n, [])) for n in (0, 1, 4, 5)]
     + [(tables.vector, (n, helper.told(words))) for n, words in TABLE_AND_VECTOR]
+    + [(tables.carries, (n, helper.told(words))) for n, words in THREE_TABLES]
 )
 
 # how many texts stand behind the first number, by that number
@@ -47,6 +54,8 @@ TEXTS_BEHIND = {
     "alike": lambda first: 0,
     "value": lambda first: first * first,
     "vector": lambda first: 1,
+    "carried": lambda first: 0,
+    "carries": lambda first: 0,
 }
 
 
@@ -69,7 +78,7 @@ class Interface(unittest.TestCase):
     def test_the_calls_and_their_arguments(self):
         expected = {
             "forms": ["a"], "char": ["a"], "alike": ["n", "texts"], "plain": ["a"], "value": ["n", "texts"],
-            "vector": ["n", "texts"],
+            "vector": ["n", "texts"], "carried": ["n", "texts"], "carries": ["n", "texts"],
         }
         for name, arguments in expected.items():
             self.assertEqual(list(inspect.signature(getattr(tables, name)).parameters), arguments)
@@ -93,6 +102,9 @@ class Interface(unittest.TestCase):
         self.assertEqual(tables.alike(2, [text] * 8), [1])
         self.assertEqual(helper.shown(tables.value(2, [text] * 5)), [2, "2", "0", "0", "2"])
         self.assertEqual(helper.shown(tables.vector(2, [text] * 6)), [1, "x - 4"])
+        self.assertEqual(tables.carried(2, [text] * 8), [2])
+        self.assertEqual(tables.carries(2, [text] * 12), [0])
+        self.assertEqual(tables.carries(1, [text] * 3), [1])
 
     def test_a_second_call_answers_as_the_first(self):
         first = [call(*arguments) for call, arguments in HANDED]

@@ -4,7 +4,7 @@ import itertools
 import unittest
 
 import helper
-from tablesalike.tables import alike, char, forms, plain, value, vector
+from tablesalike.tables import alike, carried, carries, char, forms, plain, value, vector
 
 WRONG = (
     "", "-0", "00", "01", "-01", "000001", "1/1", "3/1", "2/4", "-2/4", "0/5", "-0/5", "0/1", "1/0", "-1/0", "0/0",
@@ -142,6 +142,8 @@ BESIDE_N = (
     (alike, {1: 2, 2: 8, 3: 18, 4: 32}, 0, 40),
     (value, {1: 2, 2: 5, 3: 10, 4: 17}, 1, 24),
     (vector, {1: 2, 2: 6, 3: 12, 4: 20}, 0, 24),
+    (carried, {1: 2, 2: 8, 3: 18, 4: 32}, 0, 40),
+    (carries, {1: 3, 2: 12, 3: 27, 4: 48}, 0, 56),
 )
 
 

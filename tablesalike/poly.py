@@ -35,6 +35,11 @@ def poly_product(p, q):
     return trimmed(result)
 
 
+def poly_slope(p):
+    """The polynomial that tells at each place how steeply p rises there."""
+    return [ratio_product((power, 1), number) for power, number in enumerate(p)][1:]
+
+
 def poly_divided(p, q):
     """The quotient of p by q and the rest, which is of a lower degree than q or 0; q isn't 0."""
     rest = list(p)

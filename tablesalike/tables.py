@@ -5,8 +5,9 @@ from tablesalike.grid import along_diagonal, poly_at
 from tablesalike.poly_reading import poly_of, poly_refusal
 from tablesalike.reading import counted_refusal, numbers_of, table_of, table_refusal, tables_of
 from tablesalike.square import forms_of, polynomial_of
+from tablesalike.stretching import simple_of, stretches_of
 from tablesalike.vectors import least_polynomial_of
-from tablesalike.writing import answer, poly_text, table_answer
+from tablesalike.writing import answer, number_text, poly_text, table_answer
 
 
 def forms(a):
@@ -83,3 +84,23 @@ def carries(n, texts):
     three = tables_of(n, texts)
     holds = does_carry(three[0], three[1], three[2]) and has_inverse(three[2])
     return [1 if holds else 0]
+
+
+def stretches(a):
+    """How many fractions stretch some vector; then each, how often it's a root, how many such vectors there are."""
+    refusal = table_refusal(a)
+    if refusal < 0:
+        return [refusal]
+    found = stretches_of(forms_of(table_of(a)))
+    texts = []
+    for root, times, free in found:
+        texts.extend([number_text(root), str(times), str(free)])
+    return answer(len(found), texts)
+
+
+def simple(a):
+    """0 if a square goes into the table's least polynomial; else 2 if all its roots are fractions; else 1."""
+    refusal = table_refusal(a)
+    if refusal < 0:
+        return [refusal]
+    return [simple_of(forms_of(table_of(a))[-1])]

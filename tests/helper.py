@@ -1,6 +1,7 @@
 """What the tests share: texts to bytes and back, and the same answers reckoned by other ways."""
 
 import itertools
+import math
 import random
 from fractions import Fraction
 
@@ -248,6 +249,49 @@ def forms(rows):
     return [form for form in found if len(form) > 1]
 
 
+def divisors(number):
+    return [k for k in range(1, abs(number) + 1) if number % k == 0]
+
+
+def at_place(p, place):
+    return sum(number * place ** power for power, number in enumerate(p))
+
+
+def fraction_roots(p):
+    """The fractions at which a polynomial is 0, rising, by trying all that may be: for short numbers alone."""
+    p = [Fraction(number) for number in p]
+    whole = [int(number * math.lcm(*(x.denominator for x in p))) for number in p]
+    lowest = next(number for number in whole if number != 0)
+    tried = {Fraction(top, bottom) for top in divisors(lowest) for bottom in divisors(whole[-1])}
+    return sorted(r for r in tried | {-r for r in tried} | {Fraction(0)} if at_place(p, r) == 0)
+
+
+def stretched_vectors(rows, number):
+    """How many vectors that the table stretches by the number don't hang on others."""
+    less = [[x - (number if i == j else 0) for j, x in enumerate(row)] for i, row in enumerate(rows)]
+    return len(rows) - rank(less)
+
+
+def how_often(p, root):
+    """How often p and its slopes, one after the other, are 0 at the root."""
+    count = 0
+    while at_place(p, root) == 0:
+        p = [power * number for power, number in enumerate(p)][1:]
+        count += 1
+    return count
+
+
+def different_roots(rows):
+    """How many different roots a table's polynomial has, fractions or not, by the traces of the table's powers."""
+    size = len(rows)
+    power = unit(size)
+    traces = []
+    for _ in range(2 * size):
+        traces.append(sum(power[i][i] for i in range(size)))
+        power = product(power, rows)
+    return rank([traces[i:i + size] for i in range(size)])
+
+
 def cut_in_rows(numbers, size):
     return [[Fraction(number) for number in numbers[i:i + size]] for i in range(0, size * size, size)]
 
@@ -280,10 +324,14 @@ def tables_of_long_numbers():
         yield cut_in_rows(numbers, size)
 
 
-def sample_tables():
+def tables_of_short_numbers():
     yield from small_tables_of_two_rows()
     yield from tables_of_three_rows_of_0s_and_1s()
     yield from some_tables_of_four_rows()
+
+
+def sample_tables():
+    yield from tables_of_short_numbers()
     yield from tables_of_long_numbers()
 
 

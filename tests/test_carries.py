@@ -163,10 +163,10 @@ class ByOtherWays(unittest.TestCase):
         self.assertEqual(found, set(itertools.product(helper.AXES, (True, False))))
 
     def test_every_small_p(self):
-        """Two tables aren't alike just if no table carries one into the other and has an inverse."""
+        """Two of these tables are alike just if a p of small numbers carries one into the other and has an inverse."""
         entries = [[Fraction(x), Fraction(y)] for x, y in itertools.product((-1, 0, 1), repeat=2)]
-        pairs = list(itertools.product(([[0, 1], [0, 0]], [[1, 0], [0, -1]], [[0, 1], [1, 0]], [[0, -1], [1, 0]], [[1, 1], [1, 1]]), repeat=2))
-        for a, b in pairs:
+        tables = ([[0, 1], [0, 0]], [[1, 0], [0, -1]], [[0, 1], [1, 0]], [[0, -1], [1, 0]], [[1, 1], [1, 1]])
+        for a, b in itertools.product(tables, repeat=2):
             texts = helper.told(helper.words_of(a)) + helper.told(helper.words_of(b))
             carrying = [p for p in itertools.product(entries, repeat=2) if self.check(a, b, p)]
             self.assertEqual(carrying != [], alike(2, texts) == [1], (a, b))

@@ -36,9 +36,11 @@ THREE_TABLES = (
     (4294967295, "1"),
 )
 
+OF_ONE_TABLE = (tables.forms, tables.char, tables.plain, tables.stretches, tables.simple)
+
 # each call with its arguments, ready to be handed in
 HANDED = (
-    [(call, (helper.told(words),)) for call in (tables.forms, tables.char, tables.plain) for words in ONE_TABLE]
+    [(call, (helper.told(words),)) for call in OF_ONE_TABLE for words in ONE_TABLE]
     + [(call, (n, helper.told(words))) for call in (tables.alike, tables.carried) for n, words in TWO_TABLES]
     + [(tables.value, (n, [helper.told_alone(p)] + helper.told(words))) for n, p, words in P_AND_TABLE]
     + [(tables.value, (n, [])) for n in (0, 1, 4, 5)]
@@ -56,6 +58,8 @@ TEXTS_BEHIND = {
     "vector": lambda first: 1,
     "carried": lambda first: 0,
     "carries": lambda first: 0,
+    "stretches": lambda first: 3 * first,
+    "simple": lambda first: 0,
 }
 
 
@@ -78,7 +82,7 @@ class Interface(unittest.TestCase):
     def test_the_calls_and_their_arguments(self):
         expected = {
             "forms": ["a"], "char": ["a"], "alike": ["n", "texts"], "plain": ["a"], "value": ["n", "texts"],
-            "vector": ["n", "texts"], "carried": ["n", "texts"], "carries": ["n", "texts"],
+            "vector": ["n", "texts"], "carried": ["n", "texts"], "carries": ["n", "texts"], "stretches": ["a"], "simple": ["a"],
         }
         for name, arguments in expected.items():
             self.assertEqual(list(inspect.signature(getattr(tables, name)).parameters), arguments)
@@ -102,6 +106,8 @@ class Interface(unittest.TestCase):
         self.assertEqual(tables.alike(2, [text] * 8), [1])
         self.assertEqual(helper.shown(tables.value(2, [text] * 5)), [2, "2", "0", "0", "2"])
         self.assertEqual(helper.shown(tables.vector(2, [text] * 6)), [1, "x - 4"])
+        self.assertEqual(helper.shown(tables.stretches([text] * 4)), [2, "0", "1", "1", "4", "1", "1"])
+        self.assertEqual(tables.simple([text] * 4), [2])
         self.assertEqual(tables.carried(2, [text] * 8), [2])
         self.assertEqual(tables.carries(2, [text] * 12), [0])
         self.assertEqual(tables.carries(1, [text] * 3), [1])

@@ -174,6 +174,16 @@ class Language(unittest.TestCase):
                     call = isinstance(above, ast.Call) and getattr(above.func, "id", "") in WALKERS
                     self.assertTrue(loop or call, f"{path.name}:{node.lineno}")
 
+    def test_sets(self):
+        """A set stands beside a comparison or straight within sorted or len."""
+        for path, tree in self.trees.items():
+            parents = parents_of(tree)
+            for node in ast.walk(tree):
+                if isinstance(node, ast.Call) and getattr(node.func, "id", "") in ("set", "frozenset"):
+                    above = parents[node]
+                    call = isinstance(above, ast.Call) and getattr(above.func, "id", "") in ("sorted", "len")
+                    self.assertTrue(call or isinstance(above, ast.Compare), f"{path.name}:{node.lineno}")
+
 
 if __name__ == "__main__":
     unittest.main()

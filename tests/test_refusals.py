@@ -4,7 +4,7 @@ import itertools
 import unittest
 
 import helper
-from tablesalike.tables import alike, carried, carries, char, forms, plain, value, vector
+from tablesalike.tables import alike, carried, carries, char, forms, plain, simple, stretches, value, vector
 
 WRONG = (
     "", "-0", "00", "01", "-01", "000001", "1/1", "3/1", "2/4", "-2/4", "0/5", "-0/5", "0/1", "1/0", "-1/0", "0/0",
@@ -57,14 +57,15 @@ class OneTable(unittest.TestCase):
     """Each check is made of all the calls that are handed a table alone."""
 
     def refused(self, texts, number):
-        self.assertEqual(forms(texts), [number])
-        self.assertEqual(char(texts), [number])
-        self.assertEqual(plain(texts), [number])
+        for call in (forms, char, plain, stretches, simple):
+            self.assertEqual(call(texts), [number], call.__name__)
 
     def taken(self, texts):
         self.assertGreater(forms(texts)[0], 0)
         self.assertEqual(char(texts)[0], 2)
         self.assertEqual(plain(texts)[0] ** 2, len(texts))
+        self.assertIn(stretches(texts)[0], range(5))
+        self.assertIn(simple(texts), ([0], [1], [2]))
 
 
 class HowMany(OneTable):
@@ -101,6 +102,8 @@ class Numbers(TextsOfNumbers, OneTable):
                 self.assertEqual(helper.shown(forms([helper.told_alone(text)])), [1, polynomial])
                 self.assertEqual(helper.shown(char([helper.told_alone(text)])), [2, polynomial, polynomial])
                 self.assertEqual(helper.shown(plain([helper.told_alone(text)])), [1, text])
+                self.assertEqual(helper.shown(stretches([helper.told_alone(text)])), [1, text, "1", "1"])
+                self.assertEqual(simple([helper.told_alone(text)]), [2])
 
     def test_every_byte_alone(self):
         for byte in range(256):
